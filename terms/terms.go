@@ -1,0 +1,113 @@
+// Package terms has what the rules for all chapters call lines, numbers, moments, days, keys, plain strings and bit strings (Z9 to Z11).
+package terms
+
+import (
+	"strings"
+	"unicode/utf8"
+
+	"beadlayer/api"
+)
+
+// maxDigits is how many digits a number in a string has at most: all chapters that read numbers agree on it.
+const maxDigits = 15
+
+// Lines gives the lines of a string to accept, in order. It returns the number of the first line that is not accepted, or not ended by a line feed, and false; 0 and true if there is none.
+func Lines(text string, accept func(line string) bool) (int, bool) {
+	for n := 0; text != ""; n++ {
+		line, rest, ended := strings.Cut(text, "\n")
+		if !ended || !accept(line) {
+			return n, false
+		}
+		text = rest
+	}
+	return 0, true
+}
+
+// Number reads a number as in Z10 with at most 15 digits; false if the word is none.
+func Number(word string) (int, bool) {
+	digits, negative := strings.CutPrefix(word, "-")
+	if digits == "" || len(digits) > maxDigits {
+		return 0, false
+	}
+	if digits[0] == '0' && (negative || len(digits) > 1) {
+		return 0, false
+	}
+	n := 0
+	for i := range len(digits) {
+		if !isDigit(digits[i]) {
+			return 0, false
+		}
+		n = 10*n + int(digits[i]-'0')
+	}
+	if negative {
+		n = -n
+	}
+	return n, true
+}
+
+// Numbers reads each of the words as a number; false if one of them is none.
+func Numbers(words []string) ([]int, bool) {
+	numbers := make([]int, 0, len(words))
+	for _, word := range words {
+		n, ok := Number(word)
+		if !ok {
+			return nil, false
+		}
+		numbers = append(numbers, n)
+	}
+	return numbers, true
+}
+
+// IsMoment reports whether a number is a moment.
+func IsMoment(at int) bool {
+	return at >= 0 && at < api.End
+}
+
+// Day is the day of a moment.
+func Day(at int) int {
+	return at / api.DayLong
+}
+
+// IsKey reports whether a string is a key.
+func IsKey(s string) bool {
+	if s == "" || len(s) > api.MaxName || !isSmallLetter(s[0]) {
+		return false
+	}
+	for i := range len(s) {
+		if !isSmallLetter(s[i]) && !isDigit(s[i]) && s[i] != '-' && s[i] != '_' {
+			return false
+		}
+	}
+	return true
+}
+
+// IsPlain reports whether a string is plain.
+func IsPlain(s string) bool {
+	if !utf8.ValidString(s) || strings.HasPrefix(s, " ") || strings.HasSuffix(s, " ") || strings.Contains(s, "  ") {
+		return false
+	}
+	for i := range len(s) {
+		if s[i] < 32 || s[i] == 127 {
+			return false
+		}
+	}
+	return true
+}
+
+// IsBits reports whether a string is a bit string.
+func IsBits(s string) bool {
+	for i := range len(s) {
+		if s[i] != '0' && s[i] != '1' {
+			return false
+		}
+	}
+	return true
+}
+
+func isSmallLetter(b byte) bool {
+	return b >= 'a' && b <= 'z'
+}
+
+func isDigit(b byte) bool {
+	return b >= '0' && b <= '9'
+}

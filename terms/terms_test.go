@@ -1,0 +1,124 @@
+package terms_test
+
+import (
+	"slices"
+	"strconv"
+	"strings"
+	"testing"
+
+	"beadlayer/api"
+	"beadlayer/terms"
+)
+
+// Z9: a line ends at a line feed, which does not belong to it.
+func TestLines(t *testing.T) {
+	for _, c := range []struct {
+		text  string
+		lines []string
+		n     int
+		ok    bool
+	}{
+		{"", nil, 0, true},
+		{"\n", []string{""}, 0, true},
+		{"a\n\nb c\r\n", []string{"a", "", "b c\r"}, 0, true},
+		{"a", nil, 0, false},
+		{"a\nb\nc", []string{"a", "b"}, 2, false},
+		{"a\nbad\nb\n", []string{"a", "bad"}, 1, false},
+		{"a\nb\nbad", []string{"a", "b"}, 2, false},
+		{"bad\nb", []string{"bad"}, 0, false},
+	} {
+		var lines []string
+		n, ok := terms.Lines(c.text, func(line string) bool {
+			lines = append(lines, line)
+			return line != "bad"
+		})
+		if n != c.n || ok != c.ok || !slices.Equal(lines, c.lines) {
+			t.Errorf("%q: %q, %d, %v", c.text, lines, n, ok)
+		}
+	}
+}
+
+// Z10: decimal digits, without a 0 before others, with - before them if they are below 0.
+func TestNumber(t *testing.T) {
+	for _, n := range []int{0, 1, 9, 10, 100, 999_999_999_999_999, -1, -10, -100_000, -999_999_999_999_999} {
+		if got, ok := terms.Number(strconv.Itoa(n)); !ok || got != n {
+			t.Error(n, got, ok)
+		}
+	}
+	for _, word := range []string{
+		"", "-", "-0", "00", "01", "-01", "--1", "+1", "1-", " 1", "1 ", "1.0", "1e3", "0x1", "1_000", "a", "1a", "/", ":", "1:", "1/", "١", "\xff",
+		"1000000000000000", "-1000000000000000", "0000000000000001", strings.Repeat("9", 100),
+	} {
+		if n, ok := terms.Number(word); ok || n != 0 {
+			t.Errorf("%q: %d, %v", word, n, ok)
+		}
+	}
+}
+
+func TestNumbers(t *testing.T) {
+	if n, ok := terms.Numbers([]string{"3", "-2", "0"}); !ok || !slices.Equal(n, []int{3, -2, 0}) {
+		t.Error(n, ok)
+	}
+	if n, ok := terms.Numbers(nil); !ok || len(n) != 0 {
+		t.Error(n, ok)
+	}
+	for _, words := range [][]string{{""}, {"1", "x"}, {"x", "1"}, {"1", "", "2"}} {
+		if n, ok := terms.Numbers(words); ok || len(n) != 0 {
+			t.Errorf("%q: %d, %v", words, n, ok)
+		}
+	}
+}
+
+// Z11: a moment is a millisecond from 0 to End - 1; its day is it divided by DayLong, rounded down.
+func TestMoments(t *testing.T) {
+	for at, is := range map[int]bool{-1 << 63: false, -1: false, 0: true, 1: true, api.End - 1: true, api.End: false, 1<<63 - 1: false} {
+		if terms.IsMoment(at) != is {
+			t.Error(at)
+		}
+	}
+	for at, day := range map[int]int{0: 0, api.DayLong - 1: 0, api.DayLong: 1, 2*api.DayLong - 1: 1, api.End - 1: api.MaxDay} {
+		if got := terms.Day(at); got != day {
+			t.Error(at, got)
+		}
+	}
+}
+
+// Z11: a key has 1 to MaxName bytes: small letters, digits, - and _, the first one a small letter.
+func TestKeys(t *testing.T) {
+	for _, s := range []string{"a", "z", "a0", "z9", "a-", "a_b-c", strings.Repeat("a", api.MaxName)} {
+		if !terms.IsKey(s) {
+			t.Errorf("%q", s)
+		}
+	}
+	for _, s := range []string{"", "0", "0a", "-a", "_a", "A", "aA", "a b", "a ", " a", "a.", "a\n", "a\x00", "ä", "aä", "a`", "a{", "`", "{", "a/", "a:", strings.Repeat("a", api.MaxName+1)} {
+		if terms.IsKey(s) {
+			t.Errorf("%q", s)
+		}
+	}
+}
+
+// Z11: plain strings are UTF-8 without control bytes, and without blanks at the ends or next to each other.
+func TestPlain(t *testing.T) {
+	for _, s := range []string{"", "a", "a b c", "Größe 3", "!~", "\u0080", "\u00a0", "\U0010ffff", "a \u3000"} {
+		if !terms.IsPlain(s) {
+			t.Errorf("%q", s)
+		}
+	}
+	for _, s := range []string{
+		" ", " a", "a ", "a  b", "a\n", "\x00", "\x1f", "\x7f", "a\tb",
+		"\x80", "a\xff", "\xc3", "\xc0\x80", "\xe0\x80\x80", "\xed\xa0\x80", "\xf4\x90\x80\x80", "\xf8\x88\x80\x80\x80",
+	} {
+		if terms.IsPlain(s) {
+			t.Errorf("%q", s)
+		}
+	}
+}
+
+// Z11: a bit string consists of the bytes 0 and 1, and may be empty.
+func TestBits(t *testing.T) {
+	for s, is := range map[string]bool{"": true, "0": true, "1": true, "0110": true, "2": false, "/": false, "01 ": false, "0\x00": false, "01\n": false, "0b1": false} {
+		if terms.IsBits(s) != is {
+			t.Errorf("%q", s)
+		}
+	}
+}
