@@ -1,0 +1,141 @@
+package polygon
+
+import (
+	"strings"
+
+	"beadlayer/api"
+	"beadlayer/exact"
+)
+
+// The bytes of cells.
+const (
+	covered = "#"
+	free    = "."
+)
+
+// Filled are the cells of a region: those whose center is inside, or on a side.
+func Filled(r []api.Ring, step int) (api.Cells, api.Errno) {
+	if e := CheckRegion(r); e != api.OK {
+		return api.Cells{}, e
+	}
+	if step < 2 || step > api.MaxStep || step%2 != 0 {
+		return api.Cells{}, api.ErrArg
+	}
+	if len(r) == 0 {
+		return api.Cells{Step: step}, api.OK
+	}
+	g := gridAround(r, step)
+	if g.columns > api.MaxGrid || g.rows > api.MaxGrid {
+		return api.Cells{}, api.ErrFull
+	}
+	var sides []side
+	for _, ring := range r {
+		sides = append(sides, sidesOf(ring)...)
+	}
+	rows := make([]string, 0, g.rows)
+	for i := range g.rows {
+		rows = append(rows, g.row(sides, i))
+	}
+	return g.trimmed(rows), api.OK
+}
+
+// grid is the cells with the columns and rows in which corners are; left and low number the first ones of them.
+type grid struct{ step, left, low, columns, rows int }
+
+func gridAround(r []api.Ring, step int) grid {
+	least := r[0][0]
+	most := least
+	for _, ring := range r {
+		for _, p := range ring {
+			least = api.Point{X: min(least.X, p.X), Y: min(least.Y, p.Y)}
+			most = api.Point{X: max(most.X, p.X), Y: max(most.Y, p.Y)}
+		}
+	}
+	left, low := exact.Floor(least.X, step), exact.Floor(least.Y, step)
+	return grid{
+		step:    step,
+		left:    left,
+		low:     low,
+		columns: exact.Floor(most.X, step) - left + 1,
+		rows:    exact.Floor(most.Y, step) - low + 1,
+	}
+}
+
+// row is a row of the grid. From left to right, each side that is passed leads from outside to inside, or back.
+func (g grid) row(sides []side, number int) string {
+	y := (g.low+number)*g.step + g.step/2
+	passed, on := make([]bool, g.columns+1), make([]bool, g.columns)
+	for _, s := range sides {
+		if s.from.Y > s.to.Y {
+			s = side{from: s.to, to: s.from}
+		}
+		switch {
+		case y < s.from.Y || y > s.to.Y:
+		case s.from.Y == s.to.Y:
+			g.lieOn(s, on)
+		default:
+			column, exactly := g.centerBefore(s, y)
+			if exactly {
+				on[column] = true
+			}
+			// A side without its upper end: a way through a corner passes one side, or none, or both.
+			if y < s.to.Y {
+				passed[column+1] = !passed[column+1]
+			}
+		}
+	}
+	var text strings.Builder
+	inside := false
+	for column := range g.columns {
+		inside = inside != passed[column]
+		if inside || on[column] {
+			text.WriteString(covered)
+		} else {
+			text.WriteString(free)
+		}
+	}
+	return text.String()
+}
+
+// lieOn marks the columns whose centers are on a level side.
+func (g grid) lieOn(s side, on []bool) {
+	for column := range on {
+		x := (g.left+column)*g.step + g.step/2
+		if x >= min(s.from.X, s.to.X) && x <= max(s.from.X, s.to.X) {
+			on[column] = true
+		}
+	}
+}
+
+// centerBefore is the last column whose center is not on the right of where a rising side has the height y, and whether the side goes through this center.
+func (g grid) centerBefore(s side, y int) (int, bool) {
+	rise := s.to.Y - s.from.Y
+	first := g.left*g.step + g.step/2
+	num := (s.from.X-first)*rise + (s.to.X-s.from.X)*(y-s.from.Y)
+	return exact.Floor(num, g.step*rise), num%(g.step*rise) == 0
+}
+
+// trimmed are the cells without the rows and columns at the edges in which none is covered.
+func (g grid) trimmed(rows []string) api.Cells {
+	first, last := -1, -1
+	left, right := g.columns, -1
+	for i, row := range rows {
+		if !strings.Contains(row, covered) {
+			continue
+		}
+		if first < 0 {
+			first = i
+		}
+		last = i
+		left = min(left, strings.Index(row, covered))
+		right = max(right, strings.LastIndex(row, covered))
+	}
+	if first < 0 {
+		return api.Cells{Step: g.step}
+	}
+	kept := make([]string, 0, last-first+1)
+	for _, row := range rows[first : last+1] {
+		kept = append(kept, row[left:right+1])
+	}
+	return api.Cells{Step: g.step, X: (g.left + left) * g.step, Y: (g.low + first) * g.step, Rows: kept}
+}
