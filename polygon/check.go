@@ -1,4 +1,4 @@
-// Package polygon validates regions and finds the cells that they cover, as chapter 3 says it. Chapter 2 needs both already, and no package imports one of a later chapter: so this is below slice and region.
+// Package polygon validates and measures rings and regions and finds the cells that they cover, as chapter 3 says it. Chapter 2 needs this already, and no package imports one of a later chapter: so it is below slice and region.
 package polygon
 
 import (
@@ -14,7 +14,7 @@ func CheckRing(r api.Ring) api.Errno {
 		return api.ErrLarge
 	}
 	for _, p := range r {
-		if !inRange(p.X) || !inRange(p.Y) {
+		if !InRange(p) {
 			return api.ErrArg
 		}
 	}
@@ -47,8 +47,9 @@ func CheckRegion(r []api.Ring) api.Errno {
 	return api.OK
 }
 
-func inRange(n int) bool {
-	return n >= -api.MaxCoordinate && n <= api.MaxCoordinate
+// InRange reports whether the coordinates of a point are within their limits.
+func InRange(p api.Point) bool {
+	return max(p.X, p.Y) <= api.MaxCoordinate && min(p.X, p.Y) >= -api.MaxCoordinate
 }
 
 func hasTwice(points []api.Point) bool {
@@ -127,14 +128,6 @@ func overlap(a, b, c, d int) bool {
 	return max(a, b) >= min(c, d) && max(c, d) >= min(a, b)
 }
 
-// turn is 1 if a point is on the left of the side's line, -1 on its right, 0 on it.
 func (s side) turn(p api.Point) int {
-	product := (s.to.X-s.from.X)*(p.Y-s.from.Y) - (s.to.Y-s.from.Y)*(p.X-s.from.X)
-	switch {
-	case product > 0:
-		return 1
-	case product < 0:
-		return -1
-	}
-	return 0
+	return Turn(s.from, s.to, p)
 }

@@ -18,7 +18,7 @@ func Filled(r []api.Ring, step int) (api.Cells, api.Errno) {
 	if e := CheckRegion(r); e != api.OK {
 		return api.Cells{}, e
 	}
-	if step < 2 || step > api.MaxStep || step%2 != 0 {
+	if !IsStep(step) {
 		return api.Cells{}, api.ErrArg
 	}
 	if len(r) == 0 {
@@ -36,7 +36,12 @@ func Filled(r []api.Ring, step int) (api.Cells, api.Errno) {
 	for i := range g.rows {
 		rows = append(rows, g.row(sides, i))
 	}
-	return g.trimmed(rows), api.OK
+	return Trimmed(step, g.left, g.low, rows), api.OK
+}
+
+// IsStep reports whether cells can be as wide as this.
+func IsStep(step int) bool {
+	return step >= 2 && step <= api.MaxStep && step%2 == 0
 }
 
 // grid is the cells with the columns and rows in which corners are; left and low number the first ones of them.
@@ -115,27 +120,26 @@ func (g grid) centerBefore(s side, y int) (int, bool) {
 	return exact.Floor(num, g.step*rise), num%(g.step*rise) == 0
 }
 
-// trimmed are the cells without the rows and columns at the edges in which none is covered.
-func (g grid) trimmed(rows []string) api.Cells {
-	first, last := -1, -1
-	left, right := g.columns, -1
+// Trimmed are the cells of rows with the same number of bytes, without the rows and columns at the edges in which none is covered; left and low are the numbers of the first column and row.
+func Trimmed(step, left, low int, rows []string) api.Cells {
+	first, last, begin, end := -1, -1, -1, -1
 	for i, row := range rows {
 		if !strings.Contains(row, covered) {
 			continue
 		}
 		if first < 0 {
-			first = i
+			first, begin = i, strings.Index(row, covered)
 		}
 		last = i
-		left = min(left, strings.Index(row, covered))
-		right = max(right, strings.LastIndex(row, covered))
+		begin = min(begin, strings.Index(row, covered))
+		end = max(end, strings.LastIndex(row, covered))
 	}
 	if first < 0 {
-		return api.Cells{Step: g.step}
+		return api.Cells{Step: step}
 	}
 	kept := make([]string, 0, last-first+1)
 	for _, row := range rows[first : last+1] {
-		kept = append(kept, row[left:right+1])
+		kept = append(kept, row[begin:end+1])
 	}
-	return api.Cells{Step: g.step, X: (g.left + left) * g.step, Y: (g.low + first) * g.step, Rows: kept}
+	return api.Cells{Step: step, X: (left + begin) * step, Y: (low + first) * step, Rows: kept}
 }

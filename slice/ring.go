@@ -26,7 +26,7 @@ func Doubled(m api.Mesh, z int) (int, int, api.Errno) {
 	}
 	sum := 0
 	for _, r := range rings {
-		sum += doubledArea(r)
+		sum += polygon.Doubled(r)
 	}
 	return sum, left, api.OK
 }
@@ -45,7 +45,7 @@ func ringsAt(m api.Mesh, z int) ([]api.Ring, int, api.Errno) {
 			continue
 		}
 		ring := rounded(c.sides, cut)
-		if len(ring) < 3 || doubledArea(ring) == 0 {
+		if len(ring) < 3 || polygon.Doubled(ring) == 0 {
 			left++
 			continue
 		}
@@ -68,13 +68,4 @@ func rounded(sides []api.Side, cut func(api.Side) api.Cut) api.Ring {
 		ring = ring[:len(ring)-1]
 	}
 	return ring
-}
-
-func doubledArea(r api.Ring) int {
-	sum := 0
-	for i, p := range r {
-		q := r[(i+1)%len(r)]
-		sum += p.X*q.Y - p.Y*q.X
-	}
-	return sum
 }
