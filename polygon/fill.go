@@ -1,16 +1,9 @@
 package polygon
 
 import (
-	"strings"
-
 	"beadlayer/api"
 	"beadlayer/exact"
-)
-
-// The bytes of cells.
-const (
-	covered = "#"
-	free    = "."
+	"beadlayer/raster"
 )
 
 // Filled are the cells of a region: those whose center is inside, or on a side.
@@ -18,7 +11,7 @@ func Filled(r []api.Ring, step int) (api.Cells, api.Errno) {
 	if e := CheckRegion(r); e != api.OK {
 		return api.Cells{}, e
 	}
-	if !IsStep(step) {
+	if !raster.IsStep(step) {
 		return api.Cells{}, api.ErrArg
 	}
 	if len(r) == 0 {
@@ -32,16 +25,12 @@ func Filled(r []api.Ring, step int) (api.Cells, api.Errno) {
 	for _, ring := range r {
 		sides = append(sides, sidesOf(ring)...)
 	}
-	rows := make([]string, 0, g.rows)
+	rows := make([][]bool, 0, g.rows)
 	for i := range g.rows {
 		rows = append(rows, g.row(sides, i))
 	}
-	return Trimmed(step, g.left, g.low, rows), api.OK
-}
-
-// IsStep reports whether cells can be as wide as this.
-func IsStep(step int) bool {
-	return step >= 2 && step <= api.MaxStep && step%2 == 0
+	box := raster.Box{Left: g.left, Low: g.low, Right: g.left + g.columns, High: g.low + g.rows}
+	return raster.Drawn(step, box, func(p raster.Place) bool { return rows[p.Row-g.low][p.Column-g.left] })
 }
 
 // grid is the cells with the columns and rows in which corners are; left and low number the first ones of them.
@@ -66,8 +55,8 @@ func gridAround(r []api.Ring, step int) grid {
 	}
 }
 
-// row is a row of the grid. From left to right, each side that is passed leads from outside to inside, or back.
-func (g grid) row(sides []side, number int) string {
+// row tells which cells of a row are covered. From left to right, each side that is passed leads from outside to inside, or back.
+func (g grid) row(sides []side, number int) []bool {
 	y := (g.low+number)*g.step + g.step/2
 	passed, on := make([]bool, g.columns+1), make([]bool, g.columns)
 	for _, s := range sides {
@@ -89,17 +78,12 @@ func (g grid) row(sides []side, number int) string {
 			}
 		}
 	}
-	var text strings.Builder
 	inside := false
-	for column := range g.columns {
+	for column := range on {
 		inside = inside != passed[column]
-		if inside || on[column] {
-			text.WriteString(covered)
-		} else {
-			text.WriteString(free)
-		}
+		on[column] = on[column] || inside
 	}
-	return text.String()
+	return on
 }
 
 // lieOn marks the columns whose centers are on a level side.
@@ -118,28 +102,4 @@ func (g grid) centerBefore(s side, y int) (int, bool) {
 	first := g.left*g.step + g.step/2
 	num := (s.from.X-first)*rise + (s.to.X-s.from.X)*(y-s.from.Y)
 	return exact.Floor(num, g.step*rise), num%(g.step*rise) == 0
-}
-
-// Trimmed are the cells of rows with the same number of bytes, without the rows and columns at the edges in which none is covered; left and low are the numbers of the first column and row.
-func Trimmed(step, left, low int, rows []string) api.Cells {
-	first, last, begin, end := -1, -1, -1, -1
-	for i, row := range rows {
-		if !strings.Contains(row, covered) {
-			continue
-		}
-		if first < 0 {
-			first, begin = i, strings.Index(row, covered)
-		}
-		last = i
-		begin = min(begin, strings.Index(row, covered))
-		end = max(end, strings.LastIndex(row, covered))
-	}
-	if first < 0 {
-		return api.Cells{Step: step}
-	}
-	kept := make([]string, 0, last-first+1)
-	for _, row := range rows[first : last+1] {
-		kept = append(kept, row[begin:end+1])
-	}
-	return api.Cells{Step: step, X: (left + begin) * step, Y: (low + first) * step, Rows: kept}
 }

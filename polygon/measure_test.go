@@ -1,7 +1,6 @@
 package polygon_test
 
 import (
-	"reflect"
 	"testing"
 
 	"beadlayer/api"
@@ -58,25 +57,6 @@ func TestInRange(t *testing.T) {
 	for _, n := range []int{far + 1, -far - 1, least, greatest} {
 		if polygon.InRange(api.Point{X: n}) || polygon.InRange(api.Point{Y: n}) {
 			t.Error(n)
-		}
-	}
-}
-
-func TestTrimmed(t *testing.T) {
-	for _, c := range []struct {
-		rows []string
-		want api.Cells
-	}{
-		{nil, api.Cells{Step: 4}},
-		{[]string{"", ""}, api.Cells{Step: 4}},
-		{[]string{"...", "..."}, api.Cells{Step: 4}},
-		{[]string{"#"}, api.Cells{Step: 4, X: 20, Y: -12, Rows: []string{"#"}}},
-		{[]string{"....", ".#..", "....", "..#.", "....", "...."}, api.Cells{Step: 4, X: 24, Y: -8, Rows: []string{"#.", "..", ".#"}}},
-		{[]string{"..#.", ".#.."}, api.Cells{Step: 4, X: 24, Y: -12, Rows: []string{".#", "#."}}},
-		{[]string{".#.#", "...."}, api.Cells{Step: 4, X: 24, Y: -12, Rows: []string{"#.#"}}},
-	} {
-		if got := polygon.Trimmed(4, 5, -3, c.rows); !reflect.DeepEqual(got, c.want) {
-			t.Error(c, got)
 		}
 	}
 }

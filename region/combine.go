@@ -2,6 +2,7 @@ package region
 
 import (
 	"beadlayer/api"
+	"beadlayer/raster"
 )
 
 // Union are the cells of one or the other.
@@ -9,8 +10,8 @@ func Union(a, b api.Cells) (api.Cells, api.Errno) {
 	if e := checkBoth(a, b); e != api.OK {
 		return api.Cells{}, e
 	}
-	inA, inB := coverOf(a), coverOf(b)
-	return drawn(a.Step, boxOf(a).joined(boxOf(b)), func(p place) bool { return inA(p) || inB(p) })
+	inA, inB := raster.Covers(a), raster.Covers(b)
+	return raster.Drawn(a.Step, raster.BoxOf(a).Joined(raster.BoxOf(b)), func(p raster.Place) bool { return inA(p) || inB(p) })
 }
 
 // Both are the cells of both.
@@ -18,8 +19,8 @@ func Both(a, b api.Cells) (api.Cells, api.Errno) {
 	if e := checkBoth(a, b); e != api.OK {
 		return api.Cells{}, e
 	}
-	inA, inB := coverOf(a), coverOf(b)
-	return drawn(a.Step, boxOf(a), func(p place) bool { return inA(p) && inB(p) })
+	inA, inB := raster.Covers(a), raster.Covers(b)
+	return raster.Drawn(a.Step, raster.BoxOf(a), func(p raster.Place) bool { return inA(p) && inB(p) })
 }
 
 // Minus are the cells of the first one that are not of the second one.
@@ -27,8 +28,8 @@ func Minus(a, b api.Cells) (api.Cells, api.Errno) {
 	if e := checkBoth(a, b); e != api.OK {
 		return api.Cells{}, e
 	}
-	inA, inB := coverOf(a), coverOf(b)
-	return drawn(a.Step, boxOf(a), func(p place) bool { return inA(p) && !inB(p) })
+	inA, inB := raster.Covers(a), raster.Covers(b)
+	return raster.Drawn(a.Step, raster.BoxOf(a), func(p raster.Place) bool { return inA(p) && !inB(p) })
 }
 
 // checkBoth validates two cells that are combined.
@@ -50,7 +51,7 @@ func Grown(c api.Cells, n int) (api.Cells, api.Errno) {
 		return api.Cells{}, e
 	}
 	near := nearOf(c, n)
-	return drawn(c.Step, boxOf(c).wider(n), func(p place) bool { return near(p) > 0 })
+	return raster.Drawn(c.Step, raster.BoxOf(c).Wider(n), func(p raster.Place) bool { return near(p) > 0 })
 }
 
 // Shrunk are the cells for which all near ones are covered.
@@ -59,7 +60,7 @@ func Shrunk(c api.Cells, n int) (api.Cells, api.Errno) {
 		return api.Cells{}, e
 	}
 	near, all := nearOf(c, n), (2*n+1)*(2*n+1)
-	return drawn(c.Step, boxOf(c), func(p place) bool { return near(p) == all })
+	return raster.Drawn(c.Step, raster.BoxOf(c), func(p raster.Place) bool { return near(p) == all })
 }
 
 func checkGrow(c api.Cells, n int) api.Errno {
@@ -73,24 +74,24 @@ func checkGrow(c api.Cells, n int) api.Errno {
 }
 
 // nearOf tells of any place how many covered cells are at most n columns and n rows away. It counts once for each place how many are covered on the left of it and below.
-func nearOf(c api.Cells, n int) func(place) int {
-	b, covers := boxOf(c), coverOf(c)
-	wide := b.right - b.left + 1
-	counts := make([]int, wide*(b.high-b.low+1))
+func nearOf(c api.Cells, n int) func(raster.Place) int {
+	b, covers := raster.BoxOf(c), raster.Covers(c)
+	wide := b.Right - b.Left + 1
+	counts := make([]int, wide*(b.High-b.Low+1))
 	// A place outside has as many before it as the nearest one of the box, or of the edge after it.
 	before := func(column, row int) int {
-		column, row = min(max(column, b.left), b.right), min(max(row, b.low), b.high)
-		return counts[(row-b.low)*wide+column-b.left]
+		column, row = min(max(column, b.Left), b.Right), min(max(row, b.Low), b.High)
+		return counts[(row-b.Low)*wide+column-b.Left]
 	}
-	for p := range b.places() {
-		count := before(p.column, p.row+1) + before(p.column+1, p.row) - before(p.column, p.row)
+	for p := range b.Places() {
+		count := before(p.Column, p.Row+1) + before(p.Column+1, p.Row) - before(p.Column, p.Row)
 		if covers(p) {
 			count++
 		}
-		counts[(p.row+1-b.low)*wide+p.column+1-b.left] = count
+		counts[(p.Row+1-b.Low)*wide+p.Column+1-b.Left] = count
 	}
-	return func(p place) int {
-		left, low, right, high := p.column-n, p.row-n, p.column+n+1, p.row+n+1
+	return func(p raster.Place) int {
+		left, low, right, high := p.Column-n, p.Row-n, p.Column+n+1, p.Row+n+1
 		return before(right, high) - before(left, high) - before(right, low) + before(left, low)
 	}
 }

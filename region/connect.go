@@ -2,19 +2,47 @@ package region
 
 import (
 	"beadlayer/api"
+	"beadlayer/raster"
 )
+
+// bySides are the steps to the cells with a common side.
+func bySides() []raster.Place {
+	return []raster.Place{{Column: 1}, {Row: 1}, {Column: -1}, {Row: -1}}
+}
+
+// bySidesOrCorners are the steps to the cells with a common side or corner.
+func bySidesOrCorners() []raster.Place {
+	return append(bySides(), raster.Place{Column: 1, Row: 1}, raster.Place{Column: -1, Row: 1}, raster.Place{Column: -1, Row: -1}, raster.Place{Column: 1, Row: -1})
+}
+
+// spread are the places to which ways lead from a first one, in steps over places that enter accepts: each one once, as enter refuses those that it has accepted before.
+func spread(first raster.Place, steps []raster.Place, enter func(raster.Place) bool) []raster.Place {
+	var reached []raster.Place
+	visit := func(p raster.Place) {
+		if enter(p) {
+			reached = append(reached, p)
+		}
+	}
+	visit(first)
+	for i := 0; i < len(reached); i++ {
+		for _, step := range steps {
+			visit(reached[i].Next(step))
+		}
+	}
+	return reached
+}
 
 // Parts are the groups of connected cells.
 func Parts(c api.Cells) ([]api.Cells, api.Errno) {
 	if e := CheckCells(c); e != api.OK {
 		return nil, e
 	}
-	covers := coverOf(c)
-	partOf := make(map[place]int)
+	covers := raster.Covers(c)
+	partOf := make(map[raster.Place]int)
 	var parts []api.Cells
-	for first := range boxOf(c).places() {
+	for first := range raster.BoxOf(c).Places() {
 		number := len(parts) + 1
-		reached := spread(first, bySides(), func(p place) bool {
+		reached := spread(first, bySides(), func(p raster.Place) bool {
 			if !covers(p) || partOf[p] > 0 {
 				return false
 			}
@@ -24,7 +52,7 @@ func Parts(c api.Cells) ([]api.Cells, api.Errno) {
 		if len(reached) == 0 {
 			continue
 		}
-		part, e := drawn(c.Step, boxAround(reached), func(p place) bool { return partOf[p] == number })
+		part, e := raster.Drawn(c.Step, boxAround(reached), func(p raster.Place) bool { return partOf[p] == number })
 		if e != api.OK {
 			return nil, e
 		}
@@ -33,10 +61,11 @@ func Parts(c api.Cells) ([]api.Cells, api.Errno) {
 	return parts, api.OK
 }
 
-func boxAround(places []place) box {
-	var around box
+// boxAround is the smallest box with all of several places.
+func boxAround(places []raster.Place) raster.Box {
+	var around raster.Box
 	for _, p := range places {
-		around = around.joined(box{left: p.column, low: p.row, right: p.column + 1, high: p.row + 1})
+		around = around.Joined(raster.Box{Left: p.Column, Low: p.Row, Right: p.Column + 1, High: p.Row + 1})
 	}
 	return around
 }
@@ -46,16 +75,16 @@ func Closed(c api.Cells) (api.Cells, api.Errno) {
 	if e := CheckCells(c); e != api.OK {
 		return api.Cells{}, e
 	}
-	covers, b := coverOf(c), boxOf(c)
+	covers, b := raster.Covers(c), raster.BoxOf(c)
 	// All ways out lead to one of the cells right around the box, and from there to any other.
-	around := b.wider(1)
-	outside := make(map[place]bool)
-	spread(place{column: around.left, row: around.low}, bySidesOrCorners(), func(p place) bool {
-		if !around.has(p) || covers(p) || outside[p] {
+	around := b.Wider(1)
+	outside := make(map[raster.Place]bool)
+	spread(raster.Place{Column: around.Left, Row: around.Low}, bySidesOrCorners(), func(p raster.Place) bool {
+		if !around.Has(p) || covers(p) || outside[p] {
 			return false
 		}
 		outside[p] = true
 		return true
 	})
-	return drawn(c.Step, b, func(p place) bool { return !outside[p] })
+	return raster.Drawn(c.Step, b, func(p raster.Place) bool { return !outside[p] })
 }
