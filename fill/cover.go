@@ -62,10 +62,8 @@ func checkBoth(c api.Cells, paths []api.Path) api.Errno {
 		if len(p.Points) > api.MaxRing {
 			return api.ErrLarge
 		}
-		for _, point := range p.Points {
-			if !polygon.InRange(point) {
-				return api.ErrArg
-			}
+		if !polygon.InRange(p.Points...) {
+			return api.ErrArg
 		}
 	}
 	return api.OK

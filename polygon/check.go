@@ -13,10 +13,8 @@ func CheckRing(r api.Ring) api.Errno {
 	if len(r) > api.MaxRing {
 		return api.ErrLarge
 	}
-	for _, p := range r {
-		if !InRange(p) {
-			return api.ErrArg
-		}
+	if !InRange(r...) {
+		return api.ErrArg
 	}
 	if hasTwice(r) {
 		return api.ErrTwice
@@ -47,9 +45,14 @@ func CheckRegion(r []api.Ring) api.Errno {
 	return api.OK
 }
 
-// InRange reports whether the coordinates of a point are within their limits.
-func InRange(p api.Point) bool {
-	return max(p.X, p.Y) <= api.MaxCoordinate && min(p.X, p.Y) >= -api.MaxCoordinate
+// InRange reports whether the coordinates of all points are within their limits.
+func InRange(points ...api.Point) bool {
+	for _, p := range points {
+		if max(p.X, p.Y) > api.MaxCoordinate || min(p.X, p.Y) < -api.MaxCoordinate {
+			return false
+		}
+	}
+	return true
 }
 
 func hasTwice(points []api.Point) bool {
@@ -95,6 +98,20 @@ func meetEachOther(rings []api.Ring) bool {
 		before = append(before, sides...)
 	}
 	return false
+}
+
+// Meeting is how many sides of rings have a point in common with the straight way between two points, which can be one point.
+func Meeting(r []api.Ring, from, to api.Point) int {
+	way := side{from: from, to: to}
+	n := 0
+	for _, ring := range r {
+		for _, s := range sidesOf(ring) {
+			if s.meets(way) {
+				n++
+			}
+		}
+	}
+	return n
 }
 
 // side is a line from a corner of a ring to the next one.

@@ -58,5 +58,37 @@ func TestInRange(t *testing.T) {
 		if polygon.InRange(api.Point{X: n}) || polygon.InRange(api.Point{Y: n}) {
 			t.Error(n)
 		}
+		if polygon.InRange(api.Point{X: n}, api.Point{}) || polygon.InRange(api.Point{}, api.Point{Y: n}) {
+			t.Error("of two points", n)
+		}
+	}
+	if !polygon.InRange() || !polygon.InRange(api.Point{X: far}, api.Point{Y: -far}) {
+		t.Error("no points, or two of them")
+	}
+}
+
+func TestMeeting(t *testing.T) {
+	r := []api.Ring{square(0, 0, 10), ring(4, 4, 4, 6, 6, 6, 6, 4)}
+	for _, c := range []struct {
+		way  api.Ring
+		want int
+	}{
+		{ring(-2, 5, 12, 5), 4},
+		{ring(2, 5, 5, 5), 1},
+		{ring(-1, -1, 11, 11), 8},
+		{ring(1, 1, 9, 3), 0},
+		{ring(10, 0, 14, 0), 2},
+		{ring(11, 0, 14, 0), 0},
+		{ring(10, 5, 10, 5), 1},
+		{ring(6, 6, 6, 6), 2},
+		{ring(12, 10, 12, 10), 0},
+		{ring(5, 5, 5, 5), 0},
+	} {
+		if got := polygon.Meeting(r, c.way[0], c.way[1]); got != c.want {
+			t.Error(c, got)
+		}
+	}
+	if got := polygon.Meeting(nil, api.Point{}, api.Point{X: 1}); got != 0 {
+		t.Error(got)
 	}
 }

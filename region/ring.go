@@ -60,10 +60,8 @@ func Hull(p []api.Point) (api.Ring, api.Errno) {
 	if len(p) > api.MaxPoints {
 		return nil, api.ErrLarge
 	}
-	for _, point := range p {
-		if !polygon.InRange(point) {
-			return nil, api.ErrArg
-		}
+	if !polygon.InRange(p...) {
+		return nil, api.ErrArg
 	}
 	sorted := slices.SortedFunc(slices.Values(p), comparePoints)
 	right := leftTurns(sorted)

@@ -1,11 +1,8 @@
 package region
 
 import (
-	"strconv"
-	"strings"
-
 	"beadlayer/api"
-	"beadlayer/terms"
+	"beadlayer/points"
 )
 
 // ringWord is the line before the corners of a ring.
@@ -16,51 +13,25 @@ func Text(r []api.Ring) (string, api.Errno) {
 	if e := CheckRegion(r); e != api.OK {
 		return "", e
 	}
-	var text strings.Builder
+	var lists []points.List
 	for _, ring := range r {
-		text.WriteString(ringWord + "\n")
-		for _, p := range ring {
-			text.WriteString(strconv.Itoa(p.X) + " " + strconv.Itoa(p.Y) + "\n")
-		}
+		lists = append(lists, points.List{Word: ringWord, Points: ring})
 	}
-	if text.Len() > api.MaxText {
-		return "", api.ErrLarge
-	}
-	return text.String(), api.OK
+	return points.Text(lists)
 }
 
 // Read reads a region.
 func Read(text string) ([]api.Ring, int, api.Errno) {
-	if len(text) > api.MaxText {
-		return nil, 0, api.ErrLarge
+	lists, wrong, e := points.Read(text, ringWord)
+	if e != api.OK {
+		return nil, wrong, e
 	}
 	var r []api.Ring
-	wrong, ok := terms.Lines(text, func(line string) bool {
-		if line == ringWord {
-			r = append(r, nil)
-			return true
-		}
-		corner, ok := readCorner(line)
-		if !ok || len(r) == 0 {
-			return false
-		}
-		r[len(r)-1] = append(r[len(r)-1], corner)
-		return true
-	})
-	if !ok {
-		return nil, wrong, api.ErrSyntax
+	for _, list := range lists {
+		r = append(r, list.Points)
 	}
 	if e := CheckRegion(r); e != api.OK {
 		return nil, 0, e
 	}
 	return r, 0, api.OK
-}
-
-// readCorner is the corner that a line tells; false if it does not have the form.
-func readCorner(line string) (api.Point, bool) {
-	n, ok := terms.Numbers(strings.Split(line, " "))
-	if !ok || len(n) != 2 {
-		return api.Point{}, false
-	}
-	return api.Point{X: n[0], Y: n[1]}, true
 }
