@@ -14,6 +14,15 @@ func Floor(num, den int) int {
 	return quotient
 }
 
+// Ceil is a quotient, rounded up; den is above 0.
+func Ceil(num, den int) int {
+	quotient := num / den
+	if num%den > 0 {
+		quotient++
+	}
+	return quotient
+}
+
 // Rounded is the nearest integer to a fraction, half up.
 func Rounded(f api.Fraction) int {
 	down := Floor(f.Num, f.Den)

@@ -15,6 +15,14 @@ func TestFloor(t *testing.T) {
 	}
 }
 
+func TestCeil(t *testing.T) {
+	for _, c := range [][3]int{{0, 3, 0}, {5, 3, 2}, {6, 3, 2}, {-1, 3, 0}, {-3, 3, -1}, {-4, 3, -1}, {7, 1, 7}, {-7, 1, -7}, {-1 << 63, 2, -1 << 62}, {-1 << 63, 1, -1 << 63}, {1<<63 - 1, 1, 1<<63 - 1}, {1<<63 - 1, 2, 1 << 62}, {1, 1<<63 - 1, 1}} {
+		if got := exact.Ceil(c[0], c[1]); got != c[2] {
+			t.Error(c, got)
+		}
+	}
+}
+
 // Half up, below 0, too.
 func TestRounded(t *testing.T) {
 	for _, c := range [][3]int{

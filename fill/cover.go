@@ -117,5 +117,5 @@ func passed(from, to api.Point, step int, b raster.Box) iter.Seq[raster.Place] {
 
 // numbersBetween are the first and the last number of the rows (or columns) whose centers are between two heights, or at one of them; the last one is less than the first one if there are none.
 func numbersBetween(a, b, step int) (int, int) {
-	return -exact.Floor(step/2-min(a, b), step), exact.Floor(max(a, b)-step/2, step)
+	return exact.Ceil(min(a, b)-step/2, step), exact.Floor(max(a, b)-step/2, step)
 }
