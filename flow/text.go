@@ -31,25 +31,19 @@ func Text(d []api.Draw) (string, api.Errno) {
 	for _, draw := range d {
 		text.WriteString(strconv.Itoa(draw.At) + " " + draw.Spool + " " + strconv.Itoa(draw.Long) + "\n")
 	}
-	if text.Len() > api.MaxText {
-		return "", api.ErrLarge
-	}
-	return text.String(), api.OK
+	return terms.Bounded(text.String())
 }
 
 // Read reads draws.
 func Read(text string) ([]api.Draw, int, api.Errno) {
-	if len(text) > api.MaxText {
-		return nil, 0, api.ErrLarge
-	}
 	var d []api.Draw
-	wrong, ok := terms.Lines(text, func(line string) bool {
+	wrong, e := terms.Lines(text, func(line string) bool {
 		draw, ok := readDraw(line)
 		d = append(d, draw)
 		return ok
 	})
-	if !ok {
-		return nil, wrong, api.ErrSyntax
+	if e != api.OK {
+		return nil, wrong, e
 	}
 	if e := checkTold(d); e != api.OK {
 		return nil, 0, e

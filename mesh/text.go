@@ -26,10 +26,7 @@ func Text(m api.Mesh) (string, api.Errno) {
 	for _, f := range m.Faces {
 		text.WriteString(written(faceWord, f.A, f.B, f.C))
 	}
-	if text.Len() > api.MaxText {
-		return "", api.ErrLarge
-	}
-	return text.String(), api.OK
+	return terms.Bounded(text.String())
 }
 
 func written(word string, a, b, c int) string {
@@ -38,15 +35,12 @@ func written(word string, a, b, c int) string {
 
 // Read reads a mesh.
 func Read(text string) (api.Mesh, int, api.Errno) {
-	if len(text) > api.MaxText {
-		return api.Mesh{}, 0, api.ErrLarge
-	}
 	var m api.Mesh
-	wrong, ok := terms.Lines(text, func(line string) bool { return readLine(&m, line) })
-	if !ok {
-		return api.Mesh{}, wrong, api.ErrSyntax
+	wrong, e := terms.Lines(text, func(line string) bool { return readLine(&m, line) })
+	if e != api.OK {
+		return api.Mesh{}, wrong, e
 	}
-	m, e := checked(m)
+	m, e = checked(m)
 	return m, 0, e
 }
 

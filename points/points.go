@@ -25,19 +25,13 @@ func Text(lists []List) (string, api.Errno) {
 			text.WriteString(strconv.Itoa(p.X) + " " + strconv.Itoa(p.Y) + "\n")
 		}
 	}
-	if text.Len() > api.MaxText {
-		return "", api.ErrLarge
-	}
-	return text.String(), api.OK
+	return terms.Bounded(text.String())
 }
 
 // Read returns the lists with this Text, each with one of some words; the int is the number of the line for ErrSyntax.
 func Read(text string, words ...string) ([]List, int, api.Errno) {
-	if len(text) > api.MaxText {
-		return nil, 0, api.ErrLarge
-	}
 	var lists []List
-	wrong, ok := terms.Lines(text, func(line string) bool {
+	wrong, e := terms.Lines(text, func(line string) bool {
 		if slices.Contains(words, line) {
 			lists = append(lists, List{Word: line})
 			return true
@@ -50,8 +44,8 @@ func Read(text string, words ...string) ([]List, int, api.Errno) {
 		last.Points = append(last.Points, p)
 		return true
 	})
-	if !ok {
-		return nil, wrong, api.ErrSyntax
+	if e != api.OK {
+		return nil, wrong, e
 	}
 	return lists, 0, api.OK
 }

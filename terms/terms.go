@@ -1,4 +1,4 @@
-// Package terms has what the rules for all chapters call lines, numbers, moments, days, keys, plain strings and bit strings (Z9 to Z11).
+// Package terms has what the rules for all chapters call lines, numbers, moments, days, keys, plain strings and bit strings (Z9 to Z11), and how large a text is at most.
 package terms
 
 import (
@@ -11,16 +11,27 @@ import (
 // maxDigits is how many digits a number in a string has at most: all chapters that read numbers agree on it.
 const maxDigits = 15
 
-// Lines gives the lines of a string to accept, in order. It returns the number of the first line that is not accepted, or not ended by a line feed, and false; 0 and true if there is none.
-func Lines(text string, accept func(line string) bool) (int, bool) {
+// Bounded is a string that is written, with ErrLarge if it is too large to be read.
+func Bounded(text string) (string, api.Errno) {
+	if len(text) > api.MaxText {
+		return "", api.ErrLarge
+	}
+	return text, api.OK
+}
+
+// Lines gives the lines of a string that is read to accept, in order. It returns ErrLarge if the string is too large, or ErrSyntax with the number of the first line that is not accepted, or not ended by a line feed.
+func Lines(text string, accept func(line string) bool) (int, api.Errno) {
+	if len(text) > api.MaxText {
+		return 0, api.ErrLarge
+	}
 	for n := 0; text != ""; n++ {
 		line, rest, ended := strings.Cut(text, "\n")
 		if !ended || !accept(line) {
-			return n, false
+			return n, api.ErrSyntax
 		}
 		text = rest
 	}
-	return 0, true
+	return 0, api.OK
 }
 
 // Number reads a number as in Z10 with at most 15 digits; false if the word is none.

@@ -10,30 +10,48 @@ import (
 	"beadlayer/terms"
 )
 
+// A string that is written has at most MaxText bytes.
+func TestBounded(t *testing.T) {
+	most := strings.Repeat("a", api.MaxText)
+	for text, e := range map[string]api.Errno{"": api.OK, "a\n": api.OK, most: api.OK, most + "a": api.ErrLarge, most + most: api.ErrLarge} {
+		want := text
+		if e != api.OK {
+			want = ""
+		}
+		if got, again := terms.Bounded(text); got != want || again != e {
+			t.Errorf("%.20q: %.20q, %v", text, got, again)
+		}
+	}
+}
+
 // Z9: a line ends at a line feed, which does not belong to it.
 func TestLines(t *testing.T) {
+	long := strings.Repeat("a\n", api.MaxText/2)
 	for _, c := range []struct {
 		text  string
 		lines []string
 		n     int
-		ok    bool
+		e     api.Errno
 	}{
-		{"", nil, 0, true},
-		{"\n", []string{""}, 0, true},
-		{"a\n\nb c\r\n", []string{"a", "", "b c\r"}, 0, true},
-		{"a", nil, 0, false},
-		{"a\nb\nc", []string{"a", "b"}, 2, false},
-		{"a\nbad\nb\n", []string{"a", "bad"}, 1, false},
-		{"a\nb\nbad", []string{"a", "b"}, 2, false},
-		{"bad\nb", []string{"bad"}, 0, false},
+		{"", nil, 0, api.OK},
+		{"\n", []string{""}, 0, api.OK},
+		{"a\n\nb c\r\n", []string{"a", "", "b c\r"}, 0, api.OK},
+		{"a", nil, 0, api.ErrSyntax},
+		{"a\nb\nc", []string{"a", "b"}, 2, api.ErrSyntax},
+		{"a\nbad\nb\n", []string{"a", "bad"}, 1, api.ErrSyntax},
+		{"a\nb\nbad", []string{"a", "b"}, 2, api.ErrSyntax},
+		{"bad\nb", []string{"bad"}, 0, api.ErrSyntax},
+		{long, slices.Repeat([]string{"a"}, api.MaxText/2), 0, api.OK},
+		{long + "b", nil, 0, api.ErrLarge},
+		{"bad\n" + long, nil, 0, api.ErrLarge},
 	} {
 		var lines []string
-		n, ok := terms.Lines(c.text, func(line string) bool {
+		n, e := terms.Lines(c.text, func(line string) bool {
 			lines = append(lines, line)
 			return line != "bad"
 		})
-		if n != c.n || ok != c.ok || !slices.Equal(lines, c.lines) {
-			t.Errorf("%q: %q, %d, %v", c.text, lines, n, ok)
+		if n != c.n || e != c.e || !slices.Equal(lines, c.lines) {
+			t.Errorf("%.20q: %.20q, %d, %v", c.text, lines, n, e)
 		}
 	}
 }
