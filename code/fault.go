@@ -3,6 +3,7 @@ package code
 import (
 	"beadlayer/api"
 	"beadlayer/exact"
+	"beadlayer/terms"
 )
 
 // Faults are the steps at which something is wrong, and what.
@@ -10,7 +11,7 @@ func Faults(s []api.Step, least int) ([]int, []api.Errno, api.Errno) {
 	if e := CheckSteps(s); e != api.OK {
 		return nil, nil, e
 	}
-	if !within(least, 0, api.MaxHeat) {
+	if !terms.Within(least, 0, api.MaxHeat) {
 		return nil, nil, api.ErrArg
 	}
 	var steps []int
@@ -43,7 +44,7 @@ func fault(s api.Step, before, after api.Machine, least int) api.Errno {
 // isInside reports whether the head is where a printer can print.
 func isInside(m api.Machine) bool {
 	const far = api.MaxCoordinate
-	return within(m.X, -far, far) && within(m.Y, -far, far) && within(m.Z, 0, api.MaxZ)
+	return terms.Within(m.X, -far, far) && terms.Within(m.Y, -far, far) && terms.Within(m.Z, 0, api.MaxZ)
 }
 
 // isPrinting reports whether a step prints something.

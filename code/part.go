@@ -4,6 +4,7 @@ import (
 	"slices"
 
 	"beadlayer/api"
+	"beadlayer/terms"
 )
 
 // Joined are the steps of two programs, one behind the other.
@@ -32,7 +33,7 @@ func Layer(s []api.Step, n int) ([]api.Step, api.Errno) {
 			layers = append(layers, i)
 		}
 	}
-	if !within(n, 1, len(layers)) {
+	if !terms.Within(n, 1, len(layers)) {
 		return nil, api.ErrNone
 	}
 	from := layers[n-1] + 1

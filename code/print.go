@@ -3,6 +3,7 @@ package code
 import (
 	"beadlayer/api"
 	"beadlayer/path"
+	"beadlayer/terms"
 )
 
 // The limits and units of what is printed along paths.
@@ -61,7 +62,7 @@ func Made(p []api.Path, o []api.Visit, z, flow int) ([]api.Step, api.Errno) {
 	if e := path.CheckOrder(p, o); e != api.OK {
 		return nil, e
 	}
-	if !within(z, 0, api.MaxZ) || !within(flow, 0, maxFeed) {
+	if !terms.Within(z, 0, api.MaxZ) || !terms.Within(flow, 0, maxFeed) {
 		return nil, api.ErrArg
 	}
 	all := []api.Step{{Kind: api.StepLayer, Z: z}}

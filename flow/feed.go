@@ -3,6 +3,7 @@ package flow
 import (
 	"beadlayer/api"
 	"beadlayer/exact"
+	"beadlayer/terms"
 )
 
 // The limits of what is printed with beads.
@@ -21,7 +22,7 @@ func Retracted(b []api.Bead, area, back int, at []int) ([]int, api.Errno) {
 	if e != api.OK {
 		return nil, e
 	}
-	if !within(back, 1, api.MaxWide) {
+	if !terms.Within(back, 1, api.MaxWide) {
 		return nil, api.ErrArg
 	}
 	if e := checkPlaces(at, len(b)); e != api.OK {
@@ -59,7 +60,7 @@ func Fastest(b []api.Bead, flow int) ([]int, api.Errno) {
 	if e := CheckBeads(b); e != api.OK {
 		return nil, e
 	}
-	if !within(flow, 1, maxFlow) {
+	if !terms.Within(flow, 1, maxFlow) {
 		return nil, api.ErrArg
 	}
 	var speeds []int
@@ -75,11 +76,11 @@ func Slowed(times []int, least int) ([]int, int, api.Errno) {
 		return nil, 0, api.ErrLarge
 	}
 	for _, time := range times {
-		if !within(time, 0, api.DayLong) {
+		if !terms.Within(time, 0, api.DayLong) {
 			return nil, 0, api.ErrArg
 		}
 	}
-	if !within(least, 0, api.DayLong) {
+	if !terms.Within(least, 0, api.DayLong) {
 		return nil, 0, api.ErrArg
 	}
 	var slowed []int
@@ -97,7 +98,7 @@ func Weight(b []api.Bead, density int) (api.Fraction, api.Errno) {
 	if e != api.OK {
 		return api.Fraction{}, e
 	}
-	if !within(density, 1, maxDensity) {
+	if !terms.Within(density, 1, maxDensity) {
 		return api.Fraction{}, api.ErrArg
 	}
 	if volume > maxWeighed {

@@ -30,7 +30,7 @@ func checkNeeds(needs []int) api.Errno {
 		return api.ErrLarge
 	}
 	for _, need := range needs {
-		if !within(need, 1, api.MaxFilament) {
+		if !terms.Within(need, 1, api.MaxFilament) {
 			return api.ErrArg
 		}
 	}
@@ -135,7 +135,7 @@ func Changes(s []api.Spool, material string, need int) ([]string, bool, api.Errn
 	if e := checkMaterial(s, material); e != api.OK {
 		return nil, false, e
 	}
-	if !within(need, 0, maxPrint) {
+	if !terms.Within(need, 0, maxPrint) {
 		return nil, false, api.ErrArg
 	}
 	others := func(spool api.Spool) bool { return spool.Material != material }

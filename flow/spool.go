@@ -17,7 +17,7 @@ func CheckSpools(s []api.Spool) api.Errno {
 		if !terms.IsKey(spool.Key) || !terms.IsKey(spool.Material) {
 			return api.ErrName
 		}
-		if !within(spool.Left, 0, api.MaxFilament) {
+		if !terms.Within(spool.Left, 0, api.MaxFilament) {
 			return api.ErrArg
 		}
 		if i > 0 && spool.Key <= s[i-1].Key {
@@ -40,7 +40,7 @@ func checkDraw(d api.Draw, isSpool func(key string) bool, otherwise api.Errno) a
 	if !isSpool(d.Spool) {
 		return otherwise
 	}
-	if d.Long == 0 || !within(d.Long, -api.MaxFilament, api.MaxFilament) {
+	if d.Long == 0 || !terms.Within(d.Long, -api.MaxFilament, api.MaxFilament) {
 		return api.ErrArg
 	}
 	return api.OK
@@ -78,7 +78,7 @@ func drawn(s []api.Spool, d []api.Draw) ([]int, []int) {
 	for i, draw := range d {
 		from, _ := place(s, draw.Spool)
 		rest := left[from] - draw.Long
-		if within(rest, 0, api.MaxFilament) {
+		if terms.Within(rest, 0, api.MaxFilament) {
 			left[from] = rest
 		} else {
 			refused = append(refused, i)

@@ -1,4 +1,4 @@
-// Package terms has what the rules for all chapters call lines, numbers, moments, days, keys, plain strings and bit strings (Z9 to Z11), and how large a text is at most.
+// Package terms has what the rules for all chapters call lines, numbers, bounds, moments, days, keys, plain strings and bit strings (Z9 to Z11), and how large a text is at most.
 package terms
 
 import (
@@ -69,9 +69,14 @@ func Numbers(words []string) ([]int, bool) {
 	return numbers, true
 }
 
+// Within reports whether a number is from one to another one.
+func Within(n, least, most int) bool {
+	return n >= least && n <= most
+}
+
 // IsMoment reports whether a number is a moment.
 func IsMoment(at int) bool {
-	return at >= 0 && at < api.End
+	return Within(at, 0, api.End-1)
 }
 
 // Day is the day of a moment.

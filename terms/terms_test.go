@@ -87,6 +87,21 @@ func TestNumbers(t *testing.T) {
 	}
 }
 
+// From one number to another one, both of them with it.
+func TestWithin(t *testing.T) {
+	for _, c := range []struct {
+		n, from, to int
+		is          bool
+	}{
+		{0, 0, 0, true}, {1, 0, 0, false}, {-1, 0, 0, false}, {3, 3, 5, true}, {4, 3, 5, true}, {5, 3, 5, true}, {2, 3, 5, false}, {6, 3, 5, false},
+		{4, 5, 3, false}, {-4, -5, -3, true}, {-1 << 63, -1 << 63, 1<<63 - 1, true}, {1<<63 - 1, -1 << 63, 1<<63 - 1, true}, {-1 << 63, 0, 1<<63 - 1, false},
+	} {
+		if terms.Within(c.n, c.from, c.to) != c.is {
+			t.Error(c)
+		}
+	}
+}
+
 // Z11: a moment is a millisecond from 0 to End - 1; its day is it divided by DayLong, rounded down.
 func TestMoments(t *testing.T) {
 	for at, is := range map[int]bool{-1 << 63: false, -1: false, 0: true, 1: true, api.End - 1: true, api.End: false, 1<<63 - 1: false} {
