@@ -31,16 +31,6 @@ func word(kind int) string {
 	return "tool"
 }
 
-// kindOf is the kind of step whose lines begin with a word; false if there is none.
-func kindOf(first string) (int, bool) {
-	for kind := api.StepAbsolute; kind <= api.StepTool; kind++ {
-		if word(kind) == first {
-			return kind, true
-		}
-	}
-	return 0, false
-}
-
 // Text writes steps.
 func Text(s []api.Step) (string, api.Errno) {
 	if e := CheckSteps(s); e != api.OK {
@@ -59,23 +49,13 @@ func Text(s []api.Step) (string, api.Errno) {
 
 // Read reads steps.
 func Read(text string) ([]api.Step, int, api.Errno) {
-	var s []api.Step
-	wrong, e := terms.Lines(text, func(line string) bool {
-		step, ok := readStep(line)
-		s = append(s, step)
-		return ok
-	})
-	if e != api.OK {
-		return nil, wrong, e
-	}
-	s, e = checked(s)
-	return s, 0, e
+	return terms.Read(text, readStep, CheckSteps)
 }
 
 // readStep is the step that a line tells; false if it does not have the form.
 func readStep(line string) (api.Step, bool) {
 	words := strings.Split(line, " ")
-	kind, isKind := kindOf(words[0])
+	kind, isKind := terms.Kind(words[0], api.StepTool, word)
 	numbers, areNumbers := terms.Numbers(words[1:])
 	step := api.Step{Kind: kind}
 	used := fields(&step)

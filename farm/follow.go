@@ -47,7 +47,7 @@ func Busy(p []api.Printer, l []api.Event, w api.Window) ([]int, api.Errno) {
 	if e := CheckEvents(p, l); e != api.OK {
 		return nil, e
 	}
-	if !terms.Within(w.From, 0, w.To) || w.To > api.End {
+	if !terms.IsWindow(w) {
 		return nil, api.ErrArg
 	}
 	times := make([]int, len(p))

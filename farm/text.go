@@ -26,16 +26,6 @@ func word(kind int) string {
 	return "serve"
 }
 
-// kindOf is the kind of event that a word tells; false if there is none.
-func kindOf(told string) (int, bool) {
-	for kind := api.EventStart; kind <= api.EventServe; kind++ {
-		if word(kind) == told {
-			return kind, true
-		}
-	}
-	return 0, false
-}
-
 // checkTold validates events as far as that can be done without printers.
 func checkTold(l []api.Event) api.Errno {
 	return checkList(l, func(string) bool { return true })
@@ -59,19 +49,7 @@ func Text(l []api.Event) (string, api.Errno) {
 
 // Read reads events.
 func Read(text string) ([]api.Event, int, api.Errno) {
-	var l []api.Event
-	wrong, e := terms.Lines(text, func(line string) bool {
-		event, ok := readEvent(line)
-		l = append(l, event)
-		return ok
-	})
-	if e != api.OK {
-		return nil, wrong, e
-	}
-	if e := checkTold(l); e != api.OK {
-		return nil, 0, e
-	}
-	return l, 0, api.OK
+	return terms.Read(text, readEvent, checkTold)
 }
 
 // readEvent is the event that a line tells; false if it does not have the form.
@@ -81,7 +59,7 @@ func readEvent(line string) (api.Event, bool) {
 		return api.Event{}, false
 	}
 	at, isAt := terms.Number(words[0])
-	kind, isKind := kindOf(words[2])
+	kind, isKind := terms.Kind(words[2], api.EventServe, word)
 	event := api.Event{At: at, Kind: kind, Printer: words[1]}
 	used, rest := fields(&event), words[3:]
 	if !isAt || !isKind || len(rest) != len(used) {

@@ -36,19 +36,7 @@ func Text(d []api.Draw) (string, api.Errno) {
 
 // Read reads draws.
 func Read(text string) ([]api.Draw, int, api.Errno) {
-	var d []api.Draw
-	wrong, e := terms.Lines(text, func(line string) bool {
-		draw, ok := readDraw(line)
-		d = append(d, draw)
-		return ok
-	})
-	if e != api.OK {
-		return nil, wrong, e
-	}
-	if e := checkTold(d); e != api.OK {
-		return nil, 0, e
-	}
-	return d, 0, api.OK
+	return terms.Read(text, readDraw, checkTold)
 }
 
 // readDraw is the draw that a line tells; false if it does not have the form.

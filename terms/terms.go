@@ -1,4 +1,4 @@
-// Package terms has what the rules for all chapters call lines, numbers, bounds, moments, days, keys, plain strings and bit strings (Z9 to Z11), and how large a text is at most.
+// Package terms has what the rules for all chapters call lines, numbers, bounds, moments, days, keys, plain strings and bit strings (Z9 to Z11), how large a text is at most, how lists are read from one, and which windows there are.
 package terms
 
 import (
@@ -32,6 +32,33 @@ func Lines(text string, accept func(line string) bool) (int, api.Errno) {
 		text = rest
 	}
 	return 0, api.OK
+}
+
+// Read reads a list with an element in each line. It returns the errors of Lines, then those of the list.
+func Read[T any](text string, read func(line string) (T, bool), check func(list []T) api.Errno) ([]T, int, api.Errno) {
+	var list []T
+	wrong, e := Lines(text, func(line string) bool {
+		element, ok := read(line)
+		list = append(list, element)
+		return ok
+	})
+	if e != api.OK {
+		return nil, wrong, e
+	}
+	if e := check(list); e != api.OK {
+		return nil, 0, e
+	}
+	return list, 0, api.OK
+}
+
+// Kind is the kind, of those from 1 to the last one, that is told by a word; false if there is none.
+func Kind(told string, last int, word func(kind int) string) (int, bool) {
+	for kind := 1; kind <= last; kind++ {
+		if word(kind) == told {
+			return kind, true
+		}
+	}
+	return 0, false
 }
 
 // Number reads a number as in Z10 with at most 15 digits; false if the word is none.
@@ -77,6 +104,11 @@ func Within(n, least, most int) bool {
 // IsMoment reports whether a number is a moment.
 func IsMoment(at int) bool {
 	return Within(at, 0, api.End-1)
+}
+
+// IsWindow reports whether a window is of moments: it does not end before it begins, nor after the last one.
+func IsWindow(w api.Window) bool {
+	return Within(w.From, 0, w.To) && w.To <= api.End
 }
 
 // Day is the day of a moment.

@@ -56,6 +56,51 @@ func TestLines(t *testing.T) {
 	}
 }
 
+// A list has an element in each line; then it is checked as a whole.
+func TestRead(t *testing.T) {
+	long := strings.Repeat("1\n", api.MaxText/2)
+	for _, c := range []struct {
+		text string
+		list []int
+		n    int
+		e    api.Errno
+	}{
+		{"", nil, 0, api.OK},
+		{"3\n", []int{3}, 0, api.OK},
+		{"3\n-1\n3\n", []int{3, -1, 3}, 0, api.OK},
+		{"3\nx\n-7\n", nil, 1, api.ErrSyntax},
+		{"3\n-7", nil, 1, api.ErrSyntax},
+		{"3\n\n", nil, 1, api.ErrSyntax},
+		{"3\n-7\n", nil, 0, api.ErrRule},
+		{"-7\nx\n", nil, 1, api.ErrSyntax},
+		{long, slices.Repeat([]int{1}, api.MaxText/2), 0, api.OK},
+		{long + "1", nil, 0, api.ErrLarge},
+	} {
+		list, n, e := terms.Read(c.text, terms.Number, func(list []int) api.Errno {
+			if slices.Contains(list, -7) {
+				return api.ErrRule
+			}
+			return api.OK
+		})
+		if n != c.n || e != c.e || !slices.Equal(list, c.list) {
+			t.Errorf("%.20q: %.20v, %d, %v", c.text, list, n, e)
+		}
+	}
+}
+
+// Kinds are told by words, each one by its own.
+func TestKind(t *testing.T) {
+	word := func(kind int) string { return []string{"none", "one", "two", "three"}[kind] }
+	for told, want := range map[string]int{"one": 1, "two": 2, "none": 0, "three": 0, "": 0, "tw": 0, "twos": 0, "One": 0} {
+		if kind, ok := terms.Kind(told, 2, word); kind != want || ok != (want > 0) {
+			t.Errorf("%q: %d, %v", told, kind, ok)
+		}
+	}
+	if kind, ok := terms.Kind("one", 0, word); kind != 0 || ok {
+		t.Error(kind, ok)
+	}
+}
+
 // Z10: decimal digits, without a 0 before others, with - before them if they are below 0.
 func TestNumber(t *testing.T) {
 	for _, n := range []int{0, 1, 9, 10, 100, 999_999_999_999_999, -1, -10, -100_000, -999_999_999_999_999} {
@@ -112,6 +157,23 @@ func TestMoments(t *testing.T) {
 	for at, day := range map[int]int{0: 0, api.DayLong - 1: 0, api.DayLong: 1, 2*api.DayLong - 1: 1, api.End - 1: api.MaxDay} {
 		if got := terms.Day(at); got != day {
 			t.Error(at, got)
+		}
+	}
+}
+
+// A window does not end before it begins, and has no moments but those that there are.
+func TestWindows(t *testing.T) {
+	const least, greatest = -1 << 63, 1<<63 - 1
+	for _, c := range []struct {
+		from, to int
+		is       bool
+	}{
+		{0, 0, true}, {0, 1, true}, {7, 7, true}, {0, api.End, true}, {api.End, api.End, true}, {api.End - 1, api.End, true},
+		{-1, 0, false}, {-1, -1, false}, {1, 0, false}, {api.End, api.End - 1, false}, {0, api.End + 1, false}, {api.End + 1, api.End + 1, false},
+		{least, greatest, false}, {greatest, least, false}, {least, least, false}, {greatest, greatest, false}, {0, greatest, false}, {least, 0, false},
+	} {
+		if terms.IsWindow(api.Window{From: c.from, To: c.to}) != c.is {
+			t.Error(c)
 		}
 	}
 }
